@@ -1,0 +1,1 @@
+"""Beadnets: nets of places and moves that take and give beads."""

@@ -1,0 +1,17 @@
+"""The refusals."""
+
+
+class NetError(ValueError):
+    pass
+
+
+class NoNet(NetError):
+    pass
+
+
+class NoMove(NetError):
+    pass
+
+
+class TooFew(NetError):
+    pass
