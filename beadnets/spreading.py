@@ -28,6 +28,15 @@ def looks_at(depth):
     return FEW_LOOKS
 
 
+def row_between(backs, first, last):
+    row = []
+    while last != first:
+        row.append(backs[last][1])
+        last = backs[last][0]
+    row.reverse()
+    return row
+
+
 # Beads that can be come to, each once, with the way back to the start.
 class Tree:
     def __init__(self, moves, start):
@@ -86,20 +95,12 @@ class Tree:
             self.leap.append(spot)
             self.fewest.append(beads)
 
-    def row_between(self, first, last):
-        row = []
-        while last != first:
-            row.append(self.back[last][1])
-            last = self.back[last][0]
-        row.reverse()
-        return row
-
     def tell_all(self):
         return ("all", [(list(beads), back) for beads, back in zip(self.beads, self.back)])
 
     def tell_growth(self):
         lower = self.ring[0]
-        return ("grows", self.row_between(0, lower), self.row_between(lower, self.ring[1]))
+        return ("grows", row_between(self.back, 0, lower), row_between(self.back, lower, self.ring[1]))
 
 
 # Goes on from the beads in the order in which they were found: it finds all there are, and is

@@ -118,6 +118,48 @@ class Language(unittest.TestCase):
                     for alias in node.names:
                         self.assertIn(alias.name, defined)
 
+    def test_no_files_draw_from_one_another(self):
+        drawn = {path.stem: {node.module.split(".")[1] for node in ast.walk(ast.parse(path.read_text()))
+                             if isinstance(node, ast.ImportFrom)} for path in files()}
+        while drawn:
+            free = [name for name in drawn if not drawn[name] & set(drawn)]
+            self.assertTrue(free, "files draw from one another: " + ", ".join(sorted(drawn)))
+            for name in free:
+                drawn.pop(name)
+
+    def test_the_top_of_a_file(self):
+        for path in files():
+            body = ast.parse(path.read_text()).body
+            self.assertIsInstance(body[0], ast.Expr, path.name)
+            for node in body[1:]:
+                self.assertIsInstance(node, (ast.ImportFrom, ast.FunctionDef, ast.ClassDef, ast.Assign), path.name)
+                if isinstance(node, ast.Assign):
+                    self.assertIsInstance(node.value, ast.Constant)
+
+    def test_each_name_once(self):
+        for path in files():
+            tree = ast.parse(path.read_text())
+            imported = [alias.asname or alias.name for node in tree.body if isinstance(node, ast.ImportFrom)
+                        for alias in node.names]
+            defined = [node.name for node in tree.body if isinstance(node, (ast.FunctionDef, ast.ClassDef))]
+            given = [name.id for node in tree.body if isinstance(node, ast.Assign) for name in node.targets]
+            at_top = imported + defined + given
+            self.assertEqual(len(at_top), len(set(at_top)), path.name)
+            bound = list(bound_names(tree))
+            for name in at_top:
+                self.assertEqual(bound.count(name), 0 if name in imported else 1, f"{path.name} {name}")
+
+    def test_no_sets_and_no_reckoned_powers(self):
+        for place, node in each_node():
+            with self.subTest(place):
+                self.assertNotIsInstance(node, ast.Set)
+                if isinstance(node, ast.Name):
+                    self.assertNotIn(node.id, ("set", "frozenset"))
+                if isinstance(node, ast.BinOp) and isinstance(node.op, ast.Pow):
+                    self.assertIn(getattr(node.right, "value", None), range(65))
+                if isinstance(node, ast.Constant) and isinstance(node.value, str):
+                    self.assertNotIn("%", node.value)
+
     def test_names(self):
         for path in files():
             tree = ast.parse(path.read_text())

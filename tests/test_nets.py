@@ -5,8 +5,7 @@ import unittest
 import following
 from beadnets.errors import NetError, NoMove, NoNet, TooFew
 from beadnets.nets import behind
-
-BIG = 10 ** 40 - 1
+from following import BIG
 
 # Two moves of one place to another and back, and one that nothing is needed for.
 SWAP = [([1, 0], [0, 1]), ([0, 1], [1, 0]), ([0, 0], [1, 0])]

@@ -6,24 +6,7 @@ import unittest
 import following
 from beadnets.errors import NetError, NoNet
 from beadnets.spreading import Tree, all_beads
-from following import move, shift
-
-BIG = 10 ** 40 - 1
-
-
-def ring_of_places(places, number=1):
-    return [shift(places, place, (place + 1) % places, number) for place in range(places)]
-
-
-def some_list(source, places, most):
-    return [source.randint(1, most) if source.random() < 0.4 else 0 for place in range(places)]
-
-
-def some_net(source, most):
-    places = source.randint(1, 5)
-    count = source.randint(0, 6)
-    moves = [(some_list(source, places, most), some_list(source, places, most)) for number in range(count)]
-    return moves, [source.randint(0, most + 1) for place in range(places)]
+from following import BIG, move, ring_of_places, shift, some_net
 
 
 class Told(unittest.TestCase):
